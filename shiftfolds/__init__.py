@@ -1,0 +1,1 @@
+"""A compiler for long folds over an operation that is associative only in part."""

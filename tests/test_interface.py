@@ -1,0 +1,57 @@
+"""The interface: names, parameters and methods, each in the file and in the class that lists it."""
+
+import importlib
+import inspect
+import unittest
+
+FUNCTIONS = {
+    "operations": """
+        unlike_values(operation) values_from(operation,values) stopping_sums(values,zero) differences(values)
+        swallowing(operation,value) opposite(operation) renamed(operation,sent) is_likeness(operation,value)
+        likeness_by(operation,pairs) folded(operation,likeness) bracket_likeness(operation)
+    """,
+    "typings": """
+        breaking(operation,kinds,holding) is_breaking(operation,kinds,holding,value) kinds_of_value(typed,word)
+        least_holding(operation,kinds,told) least_typing(operation,kinds,told) kinds_typing(kinds)
+        finest_typing(operation) likeness_steps(operation) are_likeness_steps(operation,value)
+    """,
+}
+CLASSES = {
+    ("operations", "Operation"): "__init__(self,table) table(self) names(self) do(self,first,second) __eq__(self,other)",
+    ("typings", "Kinds"): "__init__(self,table) table(self) names(self) put(self,first,second) __eq__(self,other)",
+    ("typings", "Typing"): """
+        __init__(self,operation,kinds,holding) operation(self) kinds(self) holding(self) __eq__(self,other)
+    """,
+}
+
+
+def call_of(found):
+    return f"{found.__name__}({','.join(inspect.signature(found).parameters)})"
+
+
+class InterfaceTest(unittest.TestCase):
+    def test_functions(self):
+        for module, calls in FUNCTIONS.items():
+            for call in calls.split():
+                found = getattr(importlib.import_module(f"shiftfolds.{module}"), call.partition("(")[0])
+                self.assertTrue(inspect.isfunction(found), call)
+                self.assertEqual((call_of(found), found.__module__), (call, f"shiftfolds.{module}"))
+
+    def test_classes(self):
+        for (module, name), calls in CLASSES.items():
+            found = getattr(importlib.import_module(f"shiftfolds.{module}"), name)
+            self.assertEqual((found.__name__, found.__module__), (name, f"shiftfolds.{module}"))
+            for call in calls.split():
+                method = vars(found)[call.partition("(")[0]]
+                self.assertEqual(call_of(method), call)
+
+    def test_parameters_have_no_defaults(self):
+        for module, calls in FUNCTIONS.items():
+            for call in calls.split():
+                found = getattr(importlib.import_module(f"shiftfolds.{module}"), call.partition("(")[0])
+                for parameter in inspect.signature(found).parameters.values():
+                    self.assertIs(parameter.default, inspect.Parameter.empty)
+
+
+if __name__ == "__main__":
+    unittest.main()

@@ -48,6 +48,33 @@ def is_count(value):
     return isinstance(value, int) and not isinstance(value, bool) and value >= 0
 
 
+def is_count_from(value, least):
+    """Whether any object is a count that is at least so great."""
+    return is_count(value) and value >= least
+
+
+def is_count_list(value, size):
+    """Whether any object is a list of so many counts."""
+    return isinstance(value, list) and len(value) == size and all([is_count(part) for part in value])
+
+
+def is_triples(value, names):
+    """Whether any object is an ascending list of tuples of three of some words."""
+    if not isinstance(value, list) or not all([is_tuple_of(triple, 3, names) for triple in value]):
+        return False
+    return is_ascending(value)
+
+
+def word_at(number):
+    """The word at a position of a, b, .., z, aa, ab, ..: shorter ones first, those of one length ascending."""
+    word = ""
+    left = number + 1
+    while left > 0:
+        word = LETTERS[(left - 1) % 26] + word
+        left = (left - 1) // 26
+    return word
+
+
 def table_names(table):
     """The ascending list of the words of a table, None for any object that is no table.
 
@@ -56,9 +83,13 @@ def table_names(table):
     if not isinstance(table, dict) or not table:
         return None
     for pair in table:
-        if not isinstance(pair, tuple) or len(pair) != 2 or not all([is_word(word) for word in pair]):
+        if not isinstance(pair, tuple) or len(pair) != 2:
+            return None
+        if not isinstance(pair[0], str) or not isinstance(pair[1], str):
             return None
     names = sorted({word for pair in table for word in pair})
+    if not is_word_list(names):
+        return None
     # the keys are unlike tuples of two of these words: so they are ALL of them if there are as many
     if len(table) != len(names) * len(names):
         return None
@@ -71,6 +102,14 @@ def table_names(table):
 def ordered_table(table, names):
     """A copy of a table with its keys ascending."""
     return {(first, second): table[(first, second)] for first in names for second in names}
+
+
+def table_rows(table):
+    """The dictionary from the first words of a table to the dictionaries from the second ones to what they make."""
+    rows = {first: {} for first, second in table}
+    for first, second in table:
+        rows[first][second] = table[(first, second)]
+    return rows
 
 
 def bracketings(table, one, two, three):

@@ -5,6 +5,7 @@ from random import Random
 
 from shiftfolds.errors import FoldError, InvalidValue
 from shiftfolds.operations import Operation
+from shiftfolds.rights import Base
 from shiftfolds.typings import Kinds, Typing
 
 STOP_NAMES = ["mm", "m", "o", "q", "qq"]
@@ -154,6 +155,22 @@ def strange_objects():
     ]
 
 
+def strange_folds():
+    """More objects, among them what is asked somewhere of bases, rows, groupings and the like, and what is near it."""
+    return [
+        Base(stop_typing(), [], "left"), [Base(stop_typing(), [], "left")], ["p"], ["p", "x"], ["p", ["p"]], ("p", "p"),
+        [[]], [()], [[], []], (0, 2),
+        [(0, 2)], ((0, 2),), [[0, 2]], [(0, 2), (0, 3)], [(0, 3), (0, 2)], [(0, 2), (0, 2)], [(False, 2)], [(0, 2), 3],
+        [(0, 3)], [(0, 2, 2)], [(0, 1)], [(0, 3), (1, 2)], [[(0, 2)]], [[(0, 2)], [(0, 2)]], [[0]], [0], [0, 0], [True],
+        [1, 1], [False], [-1], [(0, "2")], {(0, 2): 1}, {("p", "p"): (0, 0, 0)}, {("p", "p"): (0, 1)},
+        {("p", "p"): [0, 0, 0]}, {("p", "p"): (0, 0, True)}, {("p", "p"): 1}, {(0, 2, ((0, 2),)): 1}, {0: 1},
+        ("p", "p", "p"), [("p", "p", "p"), ("n", "n", "n")], [["p", "p", "p"]], [("p", "p", "x")], [("p", "p", 1)],
+        ("right", 0, 1, 2, 3), [("right", 0, 1, 2, 3)], [("right", False, 1, 2, 3)], ("up", 0, 1, 2, 3),
+        ([(0, 2)], ("right", 0, 1, 2, 3)), ([], [], 0, ("p", "p")), (0, 2, ((0, 2),)), [(0, 2, ((0, 2),))],
+        (stop_typing(), ["q"]), [stop_typing(), ["q"]], [["a", "n", "p"]], [["a"], ["n"], ["p"]], [["p"], ["a", "n"]],
+    ]
+
+
 def snapshot(value):
     """A picture of an object, by which a change deep within it, of a kind or of an order, is seen."""
     if isinstance(value, (list, tuple)):
@@ -165,6 +182,8 @@ def snapshot(value):
     if isinstance(value, Typing):
         parts = [value.operation(), value.kinds(), value.holding()]
         return ["Typing"] + [snapshot(part) for part in parts]
+    if isinstance(value, Base):
+        return ["Base"] + [snapshot(part) for part in [value.typed(), value.triples(), value.word()]]
     if isinstance(value, FoldError):
         return [value.__class__.__name__, snapshot(getattr(value, "value", None))]
     return [value.__class__.__name__, repr(value)]

@@ -3,45 +3,89 @@
 import unittest
 from itertools import product
 
-from shiftfolds import errors, operations, typings
+from shiftfolds import classes, errors, folding, operations, rights, shifts, typings
 from shiftfolds.operations import Operation
+from shiftfolds.rights import Base
 from shiftfolds.typings import Kinds, Typing
 
+from tests.folds import SIGN_TRIPLES
 from tests.helpers import (
-    signs, signs_holding, signs_table, snapshot, stop, stop_table, stop_typing, strange_objects,
+    signs, signs_holding, signs_table, snapshot, stop, stop_table, stop_typing, strange_folds, strange_objects,
 )
+
+
+def same(one, other):
+    return snapshot(one) == snapshot(other)
+
+
+def among(*right):
+    return lambda x: any(same(x, each) for each in right)
+
+
+def none_of_them(x):
+    return False
+
+
+def sign_base():
+    return Base(stop_typing(), SIGN_TRIPLES, "right")
+
+
+def four_row():
+    return ["p", "p", "n", "p"]
+
+
+def tower():
+    return [(0, 2), (0, 3), (0, 4)]
+
+
+def halves():
+    return [(0, 2), (0, 4), (2, 4)]
+
 
 # Each parameter: its name, the word of its error (None: any object is judged), a right object, and what else is right.
 OPERATION = ("operation", "InvalidOperation", stop, lambda x: isinstance(x, Operation))
 KINDS = ("kinds", "InvalidKinds", signs, lambda x: isinstance(x, Kinds))
 TYPED = ("typed", "InvalidTyping", stop_typing, lambda x: isinstance(x, Typing))
-HOLDING = ("holding", "InvalidHolding", signs_holding, lambda x: False)
-TOLD = ("told", "InvalidHolding", lambda: {"p": ["q"]}, lambda x: x in ({}, {"p": ["q"]}))
+BASE = ("base", "InvalidBase", sign_base, lambda x: isinstance(x, Base))
+HOLDING = ("holding", "InvalidHolding", signs_holding, none_of_them)
+TOLD = ("told", "InvalidHolding", lambda: {"p": ["q"]}, among({}, {"p": ["q"]}))
 JUDGED = ("value", None, lambda: None, lambda x: True)
 IS_VALUE = lambda x: isinstance(x, str) and x in stop().names()
 IS_VALUES = lambda x: isinstance(x, list) and len(x) > 0 and all(IS_VALUE(part) for part in x)
-IS_WORDS = lambda x: x in (["q"], ["q", "m"], ["qq", "q"]) and isinstance(x, list)
-WORDS = ("values", "InvalidValue", lambda: ["b", "a", "c"], IS_WORDS)
+WORDS = (
+    "values", "InvalidValue", lambda: ["b", "a", "c"], among(["q"], ["q", "m"], ["qq", "q"], ["p"], ["p", "x"]),
+)
 LIKENESS = [["m", "mm", "o", "q", "qq"]]
-IS_TABLE = lambda x: isinstance(x, dict) and x == {("a", "a"): "a"}
-IS_WORD = lambda x: isinstance(x, str) and x in ("a", "right", "abcdefgh")
-IS_COUNT = lambda x: isinstance(x, int) and not isinstance(x, bool) and x in (0, 1, 2)
+IS_TABLE = among({("a", "a"): "a"})
+IS_WORD = among("a", "right", "abcdefgh")
 SENT = {"m": "a", "mm": "b", "o": "c", "q": "d", "qq": "q"}
+TRIPLE = ("triple", "InvalidTriples", lambda: ("p", "p", "n"), among(("p", "p", "p")))
+TRIPLES = ("triples", "InvalidTriples", lambda: list(SIGN_TRIPLES), among([]))
+WORD = ("word", "InvalidWord", lambda: "left", among("right"))
+FOLDING = ("lists", "InvalidFolding", lambda: [["a"], ["n"], ["p"]], among([["a"], ["n"], ["p"]]))
+ROW = ("row", "InvalidRow", four_row, among(["p"]))
+GROUPING = ("grouping", "InvalidGrouping", tower, none_of_them)
+ONE = ("one", "InvalidGrouping", tower, none_of_them)
+OTHER = ("other", "InvalidGrouping", halves, none_of_them)
+SIZE = ("size", "InvalidCount", lambda: 4, among(1, 2, 7, 10 ** 30))
+FOLD = [BASE, ROW, GROUPING]
+TWO = [BASE, ROW, ONE, OTHER]
+SHIFTED = [KINDS, TRIPLES, ROW]
 
 CALLS = [
     (Operation, [("table", "InvalidOperation", stop_table, IS_TABLE)]),
     (operations.unlike_values, [OPERATION]),
     (operations.values_from, [OPERATION, ("values", "InvalidValue", lambda: ["m", "qq"], IS_VALUES)]),
-    (operations.stopping_sums, [WORDS, ("zero", "InvalidCount", lambda: 2, IS_COUNT)]),
+    (operations.stopping_sums, [WORDS, ("zero", "InvalidCount", lambda: 2, among(0, 1, 2))]),
     (operations.differences, [WORDS]),
     (operations.swallowing, [OPERATION, ("value", "InvalidValue", lambda: "z", IS_WORD)]),
     (operations.opposite, [OPERATION]),
-    (operations.renamed, [OPERATION, ("sent", "InvalidMap", lambda: dict(SENT), lambda x: False)]),
+    (operations.renamed, [OPERATION, ("sent", "InvalidMap", lambda: dict(SENT), none_of_them)]),
     (operations.is_likeness, [OPERATION, JUDGED]),
     (operations.likeness_by, [
-        OPERATION, ("pairs", "InvalidLikeness", lambda: [("o", "q")], lambda x: x in ([], [("q", "q")])),
+        OPERATION, ("pairs", "InvalidLikeness", lambda: [("o", "q")], among([], [("q", "q")])),
     ]),
-    (operations.folded, [OPERATION, ("likeness", "InvalidLikeness", lambda: [list(LIKENESS[0])], lambda x: False)]),
+    (operations.folded, [OPERATION, ("likeness", "InvalidLikeness", lambda: [list(LIKENESS[0])], none_of_them)]),
     (operations.bracket_likeness, [OPERATION]),
     (Kinds, [("table", "InvalidTable", signs_table, IS_TABLE)]),
     (Typing, [OPERATION, KINDS, HOLDING]),
@@ -54,7 +98,65 @@ CALLS = [
     (typings.finest_typing, [OPERATION]),
     (typings.likeness_steps, [OPERATION]),
     (typings.are_likeness_steps, [OPERATION, JUDGED]),
+    (rights.right_triples, [TYPED]),
+    (rights.is_right, [TYPED, TRIPLE]),
+    (rights.parting_values, [TYPED, TRIPLE]),
+    (rights.are_parting_values, [TYPED, TRIPLE, JUDGED]),
+    (rights.is_settled, [KINDS, TRIPLES, WORD]),
+    (rights.missing_triple, [KINDS, ("triples", "InvalidTriples", lambda: [("a", "p", "p")], among([])), WORD]),
+    (rights.is_missing, [KINDS, TRIPLES, WORD, JUDGED]),
+    (Base, [TYPED, TRIPLES, WORD]),
+    (rights.right_base, [TYPED, WORD]),
+    (rights.greatest_lots, [TYPED, WORD]),
+    (rights.kinds_base, [KINDS, TRIPLES, WORD]),
+    (rights.mirrored_base, [BASE]),
+    (folding.is_folding, [KINDS, TRIPLES, JUDGED]),
+    (folding.all_foldings, [KINDS, TRIPLES]),
+    (folding.coarsest, [KINDS, TRIPLES]),
+    (folding.apart, [KINDS, TRIPLES, ("one", "InvalidKind", lambda: "n", among("a")), (
+        "other", "InvalidKind", lambda: "p", among("a"),
+    )]),
+    (folding.is_mark, [KINDS, TRIPLES, ("one", "InvalidKind", lambda: "n", among("a")), (
+        "other", "InvalidKind", lambda: "p", among("a"),
+    ), JUDGED]),
+    (folding.folded_kinds, [KINDS, TRIPLES, FOLDING]),
+    (folding.folded_triples, [KINDS, TRIPLES, FOLDING]),
+    (folding.row_folded, [KINDS, TRIPLES, FOLDING, ROW]),
+    (folding.folded_typing, [TYPED, FOLDING]),
+    (shifts.is_row, [KINDS, JUDGED]),
+    (shifts.is_grouping, [SIZE, JUDGED]),
+    (shifts.plain, [SIZE]),
+    (shifts.let_deeds, SHIFTED + [GROUPING]),
+    (shifts.done, SHIFTED + [GROUPING, ("deed", "InvalidDeed", lambda: ("right", 0, 2, 3, 4), none_of_them)]),
+    (shifts.is_chain, SHIFTED + [ONE, OTHER, JUDGED]),
+    (shifts.joined, TWO),
+    (shifts.chain_between, TWO),
+    (shifts.hull, [KINDS, TRIPLES, WORD]),
+    (shifts.side, [TYPED, ROW, ONE, OTHER]),
+    (classes.last_of, FOLD),
+    (classes.class_of, FOLD),
+    (classes.are_joined, TWO),
+    (classes.splits_of, FOLD),
+    (classes.class_with, [
+        BASE, ROW, ("one", "InvalidGrouping", lambda: [(0, 2)], among([], [(0, 2)], [(0, 2), (0, 3)])),
+        ("other", "InvalidGrouping", lambda: [(0, 2)], among([(0, 2)])),
+    ]),
+    (classes.class_size, FOLD),
+    (classes.size_by_splits, FOLD),
+    (classes.class_number, [BASE, ROW]),
+    (classes.class_at, FOLD + [("number", "InvalidCount", lambda: 1, among(0, 1))]),
+    (classes.class_place, FOLD),
+    (classes.coming, FOLD),
+    (classes.comes, FOLD + [JUDGED]),
+    (classes.lone_stretches, [BASE, ROW]),
+    (classes.one_class, [BASE, ROW]),
 ]
+# What is judged True with the right objects of the others: what the functions beside the judges return.
+TRUE_OF = {
+    "is_likeness": [LIKENESS], "is_folding": [[["a"], ["n"], ["p"]]], "is_row": [four_row()],
+    "is_grouping": [tower(), halves()], "is_chain": [[("right", 0, 2, 3, 4)]], "comes": [(2, 4, ((2, 4),))],
+    "are_parting_values": [("q", "qq", "m")],
+}
 
 
 class ArgumentsTest(unittest.TestCase):
@@ -71,7 +173,7 @@ class ArgumentsTest(unittest.TestCase):
     def test_each_wrong_argument(self):
         for call, params in CALLS:
             for at, (_, word, _, is_right) in enumerate(params):
-                for wrong in strange_objects() if word else []:
+                for wrong in strange_objects() + strange_folds() if word else []:
                     if is_right(wrong):
                         continue
                     arguments = [param[2]() for param in params]
@@ -85,7 +187,7 @@ class ArgumentsTest(unittest.TestCase):
             arguments = [param[2]() for param in params]
             wanted = snapshot(call(*arguments))
             for at, (_, word, right, is_right) in enumerate(params):
-                for wrong in strange_objects() if word else []:
+                for wrong in strange_objects() + strange_folds() if word else []:
                     if not is_right(wrong):
                         bent = arguments[:at] + [wrong] + arguments[at + 1:]
                         self.check_error(call, params, at, wrong, bent)
@@ -106,10 +208,9 @@ class ArgumentsTest(unittest.TestCase):
     def test_any_object_is_judged(self):
         for call, params in CALLS:
             if params[-1] is JUDGED:
-                for value in strange_objects():
+                for value in strange_objects() + strange_folds():
                     arguments = [param[2]() for param in params[:-1]] + [value]
                     before = snapshot(arguments)
-                    self.assertIn(call(*arguments), (True, False))
                     self.assertIs(type(call(*arguments)), bool)
                     self.assertIs(call(*[param[2]() for param in params[:-1]], value=value), call(*arguments))
                     self.assertEqual(snapshot(arguments), before)
@@ -124,8 +225,20 @@ class ArgumentsTest(unittest.TestCase):
             if params[-1] is JUDGED:
                 arguments = [param[2]() for param in params]
                 for at, wrong in product(range(len(params) - 1), [None, True, 1, "q", [], (), {}]):
+                    if params[at][3](wrong):
+                        continue
                     bent = arguments[:at] + [wrong] + arguments[at + 1:]
                     self.check_error(call, params, at, wrong, bent)
+
+
+    def test_what_is_returned_beside_a_judge_is_judged_true(self):
+        for call, params in CALLS:
+            for value in TRUE_OF.get(call.__name__, []):
+                arguments = [param[2]() for param in params[:-1]] + [value]
+                before = snapshot(arguments)
+                self.assertIs(call(*arguments), True, call)
+                self.assertIs(call(*arguments[:-1], value=value), True, call)
+                self.assertEqual(snapshot(arguments), before)
 
 
 class ResultsTest(unittest.TestCase):
@@ -136,8 +249,8 @@ class ResultsTest(unittest.TestCase):
             one, other = call(*arguments), call(**dict(zip([param[0] for param in params], arguments)))
             self.assertEqual(snapshot(one), snapshot(other))
             self.assertEqual(snapshot(arguments), before)
-            if isinstance(one, (list, dict)):
-                self.assertIsNot(one, other)
+            if isinstance(one, (list, dict, tuple)):
+                self.assertTrue(one is not other or isinstance(one, tuple))
                 wanted = snapshot(one)
                 spoil(one)
                 self.assertEqual(snapshot(other), wanted)
@@ -155,10 +268,10 @@ class ResultsTest(unittest.TestCase):
             self.assertEqual(snapshot(call(*[param[2]() for param in params])), wanted)
 
     def test_what_methods_return(self):
-        operation, kinds, typed = stop(), signs(), stop_typing()
+        operation, kinds, typed, base = stop(), signs(), stop_typing(), sign_base()
         for call in [
             operation.table, operation.names, kinds.table, kinds.names, typed.holding, typed.operation().table,
-            typed.operation().names, typed.kinds().table, typed.kinds().names,
+            typed.operation().names, typed.kinds().table, typed.kinds().names, base.triples, base.typed().holding,
         ]:
             wanted = snapshot(call())
             self.assertIsNot(call(), call())
@@ -181,10 +294,35 @@ def spoil(value):
         for part in list(value.values()):
             spoil(part)
         value["spoilt"] = ["spoilt"]
-    if isinstance(value, list):
+    if isinstance(value, (list, tuple)):
         for part in value:
             spoil(part)
+    if isinstance(value, list):
         value.append("spoilt")
+
+
+class OrderTest(unittest.TestCase):
+    """One base, one typing, one list filled again: what is told hangs on what is there at the call."""
+
+    def test_one_base_with_several_rows_in_turns(self):
+        base = sign_base()
+        rows = [["p", "p", "n", "p"], ["n", "a", "n", "p"], ["a"] * 4, ["p", "n", "p", "n"]]
+        wanted = [snapshot(classes.coming(sign_base(), row, tower())) for row in rows]
+        for _ in range(3):
+            for row, told in zip(rows, wanted):
+                self.assertEqual(snapshot(classes.coming(base, row, tower())), told)
+                self.assertEqual(shifts.chain_between(base, row, tower(), tower()), [])
+
+    def test_one_list_refilled(self):
+        base, row, grouping = sign_base(), [], []
+        for kinds, blocks in [(["p", "p", "n", "p"], tower()), (["p", "n"], [(0, 2)]), (["a"] * 4, halves())]:
+            row[:], grouping[:] = kinds, blocks
+            self.assertEqual(classes.class_of(base, row, grouping), classes.class_of(sign_base(), kinds, blocks))
+            self.assertEqual(classes.class_size(base, row, grouping), classes.class_size(sign_base(), kinds, blocks))
+        grouping.append((0, 4))
+        self.assertRaises(errors.InvalidGrouping, classes.class_of, base, row, grouping)
+        row.append("x")
+        self.assertRaises(errors.InvalidRow, classes.class_of, base, row, grouping)
 
 
 def turned_about(value):

@@ -15,12 +15,37 @@ FUNCTIONS = {
         least_holding(operation,kinds,told) least_typing(operation,kinds,told) kinds_typing(kinds)
         finest_typing(operation) likeness_steps(operation) are_likeness_steps(operation,value)
     """,
+    "rights": """
+        right_triples(typed) is_right(typed,triple) parting_values(typed,triple) are_parting_values(typed,triple,value)
+        is_settled(kinds,triples,word) missing_triple(kinds,triples,word) is_missing(kinds,triples,word,value)
+        right_base(typed,word) greatest_lots(typed,word) kinds_base(kinds,triples,word) mirrored_base(base)
+    """,
+    "folding": """
+        is_folding(kinds,triples,value) all_foldings(kinds,triples) coarsest(kinds,triples)
+        apart(kinds,triples,one,other) is_mark(kinds,triples,one,other,value) folded_kinds(kinds,triples,lists)
+        folded_triples(kinds,triples,lists) row_folded(kinds,triples,lists,row) folded_typing(typed,lists)
+    """,
+    "shifts": """
+        is_row(kinds,value) is_grouping(size,value) plain(size) let_deeds(kinds,triples,row,grouping)
+        done(kinds,triples,row,grouping,deed) is_chain(kinds,triples,row,one,other,value) joined(base,row,one,other)
+        chain_between(base,row,one,other) hull(kinds,triples,word) side(typed,row,one,other)
+    """,
+    "classes": """
+        last_of(base,row,grouping) class_of(base,row,grouping) are_joined(base,row,one,other)
+        splits_of(base,row,grouping) class_with(base,row,one,other) class_size(base,row,grouping)
+        size_by_splits(base,row,grouping) class_number(base,row) class_at(base,row,grouping,number)
+        class_place(base,row,grouping) coming(base,row,grouping) comes(base,row,grouping,value)
+        lone_stretches(base,row) one_class(base,row)
+    """,
 }
 CLASSES = {
     ("operations", "Operation"): "__init__(self,table) table(self) names(self) do(self,first,second) __eq__(self,other)",
     ("typings", "Kinds"): "__init__(self,table) table(self) names(self) put(self,first,second) __eq__(self,other)",
     ("typings", "Typing"): """
         __init__(self,operation,kinds,holding) operation(self) kinds(self) holding(self) __eq__(self,other)
+    """,
+    ("rights", "Base"): """
+        __init__(self,typed,triples,word) typed(self) triples(self) word(self) __eq__(self,other)
     """,
 }
 

@@ -3,7 +3,9 @@
 import unittest
 from itertools import product
 
-from shiftfolds import classes, errors, folding, operations, rights, shifts, typings
+from shiftfolds import (
+    classes, edits, equals, errors, folding, hands, operations, prices, rights, shifts, typings,
+)
 from shiftfolds.operations import Operation
 from shiftfolds.rights import Base
 from shiftfolds.typings import Kinds, Typing
@@ -42,6 +44,15 @@ def halves():
     return [(0, 2), (0, 4), (2, 4)]
 
 
+def some_prices():
+    return {pair: (1, 2 * (pair[0] == "p"), 3) for pair in signs().table()}
+
+
+def whole_grouping(x):
+    """Whether an object is right where a grouping of any number of things is asked."""
+    return isinstance(x, list) and shifts.is_grouping(len(x) + 1, x)
+
+
 # Each parameter: its name, the word of its error (None: any object is judged), a right object, and what else is right.
 OPERATION = ("operation", "InvalidOperation", stop, lambda x: isinstance(x, Operation))
 KINDS = ("kinds", "InvalidKinds", signs, lambda x: isinstance(x, Kinds))
@@ -71,6 +82,19 @@ SIZE = ("size", "InvalidCount", lambda: 4, among(1, 2, 7, 10 ** 30))
 FOLD = [BASE, ROW, GROUPING]
 TWO = [BASE, ROW, ONE, OTHER]
 SHIFTED = [KINDS, TRIPLES, ROW]
+TYPED_TWO = [TYPED, ROW, ONE, OTHER]
+PART_ONE = ("one", "InvalidGrouping", tower, none_of_them)
+PART_OTHER = ("other", "InvalidGrouping", lambda: [(0, 4), (1, 4), (2, 4)], none_of_them)
+INPUTS = ("inputs", "InvalidInputs", lambda: ["q", "qq", "mm", "q"], none_of_them)
+PRICES = ("prices", "InvalidPrices", some_prices, none_of_them)
+WEIGHTS = ("weights", "InvalidWeights", lambda: [5, 1, 1, 1], none_of_them)
+ANY_GROUPING = ("grouping", "InvalidGrouping", halves, whole_grouping)
+HANDS = ("hands", "InvalidHands", lambda: 2, among(1, 2, 7, 10 ** 30))
+RUN = [ANY_GROUPING, HANDS]
+LOSSES = ("losses", "InvalidLosses", lambda: [[(0, 2)]], among(
+    [], [[]], [[], []], [[(0, 2)]], [[(0, 2)], [(0, 2)]],
+))
+LOST = ("lost", "InvalidCount", lambda: 2, lambda x: isinstance(x, int) and not isinstance(x, bool) and x >= 0)
 
 CALLS = [
     (Operation, [("table", "InvalidOperation", stop_table, IS_TABLE)]),
@@ -150,12 +174,88 @@ CALLS = [
     (classes.comes, FOLD + [JUDGED]),
     (classes.lone_stretches, [BASE, ROW]),
     (classes.one_class, [BASE, ROW]),
+    (equals.are_inputs, [TYPED, ROW, JUDGED]),
+    (equals.value_of, [TYPED, ROW, GROUPING, INPUTS]),
+    (equals.are_equal, TYPED_TWO),
+    (equals.parting_inputs, [TYPED, ROW, PART_ONE, PART_OTHER]),
+    (equals.is_parting, [TYPED, ROW, PART_ONE, PART_OTHER, JUDGED]),
+    (equals.equal_folds, [TYPED, ROW]),
+    (equals.free_typing, [KINDS, TRIPLES, ROW]),
+    (equals.free_parting, [TYPED, ROW, PART_ONE, PART_OTHER]),
+    (equals.is_free_parting, [TYPED, ROW, PART_ONE, PART_OTHER, JUDGED]),
+    (equals.parting_operation, [BASE, ROW, PART_ONE, PART_OTHER]),
+    (equals.is_parting_operation, [BASE, ROW, PART_ONE, PART_OTHER, JUDGED]),
+    (equals.shift_chain, TYPED_TWO),
+    (equals.is_shift_chain, TYPED_TWO + [JUDGED]),
+    (equals.verdict, TYPED_TWO),
+    (equals.tells_all, [TYPED, ("size", "InvalidCount", lambda: 2, among(1, 2, 7, 10 ** 30))]),
+    (prices.are_prices, [BASE, JUDGED]),
+    (prices.price_of, FOLD + [PRICES]),
+    (prices.least_price, FOLD + [PRICES]),
+    (prices.cheapest, FOLD + [PRICES]),
+    (prices.is_cheapest, FOLD + [PRICES, JUDGED]),
+    (prices.many_cheapest, FOLD + [PRICES]),
+    (prices.bounds_of, FOLD + [PRICES]),
+    (prices.are_bounds, FOLD + [PRICES, JUDGED]),
+    (prices.two_prices, FOLD + [PRICES, ("others", "InvalidPrices", some_prices, none_of_them)]),
+    (prices.most_shared, FOLD + [("wished", "InvalidGrouping", halves, none_of_them)]),
+    (prices.nearest, FOLD + [("wished", "InvalidGrouping", halves, none_of_them)]),
+    (prices.is_nearest, FOLD + [("wished", "InvalidGrouping", halves, none_of_them), JUDGED]),
+    (prices.prices_alike, FOLD + [PRICES]),
+    (prices.unlike_shift, FOLD + [PRICES]),
+    (prices.is_unlike_shift, FOLD + [PRICES, JUDGED]),
+    (edits.depths, [ANY_GROUPING]),
+    (edits.depth_of, [ANY_GROUPING]),
+    (edits.grouping_of_depths, [("depths", "InvalidWeights", lambda: [2, 2, 2, 2], among([0], [1, 1]))]),
+    (edits.edit, FOLD + [INPUTS, ("place", "InvalidCount", lambda: 2, among(0, 1, 2)), (
+        "value", "InvalidValue", lambda: "m", none_of_them,
+    )]),
+    (edits.least_depth, FOLD),
+    (edits.flattest, FOLD),
+    (edits.is_flattest, FOLD + [JUDGED]),
+    (edits.depth_bounds, FOLD),
+    (edits.are_depth_bounds, FOLD + [JUDGED]),
+    (edits.weight_of, [("grouping", "InvalidGrouping", halves, whole_grouping), WEIGHTS]),
+    (edits.least_weight, FOLD + [WEIGHTS]),
+    (edits.best_kept, FOLD + [WEIGHTS]),
+    (edits.is_best_kept, FOLD + [WEIGHTS, JUDGED]),
+    (edits.weight_bounds, FOLD + [WEIGHTS]),
+    (edits.are_weight_bounds, FOLD + [WEIGHTS, JUDGED]),
+    (edits.room_of, [ANY_GROUPING]),
+    (edits.two_rooms, FOLD),
+    (hands.is_schedule, RUN + [JUDGED]),
+    (hands.schedule, RUN),
+    (hands.is_least_schedule, RUN + [JUDGED]),
+    (hands.bar_steps, RUN + [("depth", "InvalidCount", lambda: 1, among(0, 1))]),
+    (hands.greatest_bar, RUN),
+    (hands.is_greatest_bar, RUN + [JUDGED]),
+    (hands.run, RUN + [LOSSES]),
+    (hands.bars_left, RUN + [LOSSES]),
+    (hands.costly_steps, RUN + [LOSSES]),
+    (hands.worst_steps, RUN + [LOST]),
+    (hands.worst_losses, RUN + [LOST]),
+    (hands.are_worst_losses, RUN + [LOST, JUDGED]),
 ]
 # What is judged True with the right objects of the others: what the functions beside the judges return.
 TRUE_OF = {
     "is_likeness": [LIKENESS], "is_folding": [[["a"], ["n"], ["p"]]], "is_row": [four_row()],
     "is_grouping": [tower(), halves()], "is_chain": [[("right", 0, 2, 3, 4)]], "comes": [(2, 4, ((2, 4),))],
-    "are_parting_values": [("q", "qq", "m")],
+    "are_parting_values": [("q", "qq", "m")], "are_inputs": [["q", "qq", "mm", "q"]],
+    "is_parting": [equals.parting_inputs(stop_typing(), four_row(), tower(), PART_OTHER[2]())],
+    "is_free_parting": [equals.free_parting(stop_typing(), four_row(), tower(), PART_OTHER[2]())],
+    "is_parting_operation": [equals.parting_operation(sign_base(), four_row(), tower(), PART_OTHER[2]())],
+    "is_shift_chain": [equals.shift_chain(stop_typing(), four_row(), tower(), halves())],
+    "are_prices": [some_prices()],
+    "is_cheapest": [prices.cheapest(sign_base(), four_row(), tower(), some_prices())],
+    "are_bounds": [prices.bounds_of(sign_base(), four_row(), tower(), some_prices())],
+    "is_nearest": [prices.nearest(sign_base(), four_row(), tower(), halves())],
+    "is_unlike_shift": [prices.unlike_shift(sign_base(), four_row(), tower(), some_prices())],
+    "is_flattest": [edits.flattest(sign_base(), four_row(), tower())],
+    "are_depth_bounds": [edits.depth_bounds(sign_base(), four_row(), tower())],
+    "is_best_kept": [edits.best_kept(sign_base(), four_row(), tower(), [5, 1, 1, 1])],
+    "are_weight_bounds": [edits.weight_bounds(sign_base(), four_row(), tower(), [5, 1, 1, 1])],
+    "is_schedule": [hands.schedule(halves(), 2)], "is_least_schedule": [hands.schedule(halves(), 2)],
+    "is_greatest_bar": [hands.greatest_bar(halves(), 2)], "are_worst_losses": [hands.worst_losses(halves(), 2, 2)],
 }
 
 
@@ -312,6 +412,33 @@ class OrderTest(unittest.TestCase):
             for row, told in zip(rows, wanted):
                 self.assertEqual(snapshot(classes.coming(base, row, tower())), told)
                 self.assertEqual(shifts.chain_between(base, row, tower(), tower()), [])
+
+    def test_one_base_with_several_prices_and_weights_in_turns(self):
+        base, row = sign_base(), four_row()
+        told = [{pair: price for pair in signs().table()} for price in [(1, 0, 0), (0, 1, 0), (0, 0, 1), (0, 0, 0)]]
+        wanted = [prices.bounds_of(sign_base(), row, tower(), price) for price in told]
+        weights = [[5, 1, 1, 1], [0, 0, 0, 9], [1, 1, 1, 1]]
+        heavy = [edits.weight_bounds(sign_base(), row, tower(), weight) for weight in weights]
+        for _ in range(3):
+            for price, bounds in zip(told, wanted):
+                self.assertEqual(prices.bounds_of(base, row, tower(), price), bounds)
+            for weight, bounds in zip(weights, heavy):
+                self.assertEqual(edits.weight_bounds(base, row, tower(), weight), bounds)
+        changed = dict(told[0])
+        prices.least_price(base, row, tower(), changed)
+        changed[("p", "p")] = (7, 0, 0)
+        self.assertEqual(prices.price_of(base, row, tower(), changed), 9)
+        changed[("p", "p")] = (7, 0, True)
+        self.assertRaises(errors.InvalidPrices, prices.price_of, base, row, tower(), changed)
+
+    def test_one_typing_with_several_rows_in_turns(self):
+        typed = stop_typing()
+        rows = [["p", "p", "n"], ["p", "n", "p"], ["n", "n", "p"]]
+        wanted = [equals.equal_folds(stop_typing(), row) for row in rows]
+        for _ in range(2):
+            self.assertEqual([equals.equal_folds(typed, row) for row in rows], wanted)
+        typed.holding()["p"].clear()
+        self.assertEqual([equals.equal_folds(typed, row) for row in rows], wanted)
 
     def test_one_list_refilled(self):
         base, row, grouping = sign_base(), [], []

@@ -37,6 +37,37 @@ FUNCTIONS = {
         class_place(base,row,grouping) coming(base,row,grouping) comes(base,row,grouping,value)
         lone_stretches(base,row) one_class(base,row)
     """,
+    "equals": """
+        are_inputs(typed,row,value) value_of(typed,row,grouping,inputs) are_equal(typed,row,one,other)
+        parting_inputs(typed,row,one,other) is_parting(typed,row,one,other,value) equal_folds(typed,row)
+        free_typing(kinds,triples,row) free_parting(typed,row,one,other) is_free_parting(typed,row,one,other,value)
+        parting_operation(base,row,one,other) is_parting_operation(base,row,one,other,value)
+        shift_chain(typed,row,one,other) is_shift_chain(typed,row,one,other,value) verdict(typed,row,one,other)
+        tells_all(typed,size)
+    """,
+    "prices": """
+        are_prices(base,value) price_of(base,row,grouping,prices) least_price(base,row,grouping,prices)
+        cheapest(base,row,grouping,prices) is_cheapest(base,row,grouping,prices,value)
+        many_cheapest(base,row,grouping,prices) bounds_of(base,row,grouping,prices)
+        are_bounds(base,row,grouping,prices,value) two_prices(base,row,grouping,prices,others)
+        most_shared(base,row,grouping,wished) nearest(base,row,grouping,wished)
+        is_nearest(base,row,grouping,wished,value) prices_alike(base,row,grouping,prices)
+        unlike_shift(base,row,grouping,prices) is_unlike_shift(base,row,grouping,prices,value)
+    """,
+    "edits": """
+        depths(grouping) depth_of(grouping) grouping_of_depths(depths) edit(base,row,grouping,inputs,place,value)
+        least_depth(base,row,grouping) flattest(base,row,grouping) is_flattest(base,row,grouping,value)
+        depth_bounds(base,row,grouping) are_depth_bounds(base,row,grouping,value) weight_of(grouping,weights)
+        least_weight(base,row,grouping,weights) best_kept(base,row,grouping,weights)
+        is_best_kept(base,row,grouping,weights,value) weight_bounds(base,row,grouping,weights)
+        are_weight_bounds(base,row,grouping,weights,value) room_of(grouping) two_rooms(base,row,grouping)
+    """,
+    "hands": """
+        is_schedule(grouping,hands,value) schedule(grouping,hands) is_least_schedule(grouping,hands,value)
+        bar_steps(grouping,hands,depth) greatest_bar(grouping,hands) is_greatest_bar(grouping,hands,value)
+        run(grouping,hands,losses) bars_left(grouping,hands,losses) costly_steps(grouping,hands,losses)
+        worst_steps(grouping,hands,lost) worst_losses(grouping,hands,lost) are_worst_losses(grouping,hands,lost,value)
+    """,
 }
 CLASSES = {
     ("operations", "Operation"): "__init__(self,table) table(self) names(self) do(self,first,second) __eq__(self,other)",

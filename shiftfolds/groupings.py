@@ -117,11 +117,10 @@ def deed_turned(deed):
     return ("left" if word == "right" else "right", first, second, third, end)
 
 
-def is_deed(value):
-    """Whether any object is a deed by its form."""
-    if not isinstance(value, tuple) or len(value) != 5 or not is_count_tuple(value[1:], 4):
-        return False
-    return isinstance(value[0], str) and value[0] in ("right", "left") and is_ascending(value[1:])
+def is_one_deed(deeds, value):
+    """Whether any object is one of some deeds."""
+    # the counts come first: True and False would be found for 1 and 0
+    return isinstance(value, tuple) and is_count_tuple(value[1:], 4) and value in deeds
 
 
 def is_chain_of(kinds_of, triples, one, other, value):
@@ -130,7 +129,7 @@ def is_chain_of(kinds_of, triples, one, other, value):
         return False
     at = one
     for deed in value:
-        if not is_deed(deed) or deed not in deeds_let(kinds_of, triples, at):
+        if not is_one_deed(deeds_let(kinds_of, triples, at), deed):
             return False
         at = deed_done(at, deed)
     return at == other

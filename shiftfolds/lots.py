@@ -45,6 +45,7 @@ def least_above(rules, lot):
 
 def greatest_below(rules, lot):
     """The ascending list of the settled lots of triples of a lot that no other such one holds."""
+    asking_rules = [rule for rule in rules if has_all(lot, rule[1])]
     waiting = [sorted(lot)]
     seen = {}
     settled = []
@@ -52,19 +53,19 @@ def greatest_below(rules, lot):
         part = waiting.pop()
         if tuple(part) not in seen:
             seen[tuple(part)] = True
-            asking = asking_for_missing(rules, part)
+            asking = asking_for_missing(asking_rules, part)
             if not asking:
                 settled.append(part)
             # a settled lot within this one has not both of the two that ask: it lies within one of these
             for triple in asking:
                 waiting.append([other for other in part if other != triple])
-    return sorted([part for part in settled if is_greatest(part, settled)])
+    return sorted([found for found in settled if is_greatest(found, settled)])
 
 
 def asking_for_missing(rules, lot):
     """The two triples of a lot that ask for one that it has not, none if it is settled."""
     known = {triple: True for triple in lot}
-    for four, asking, asked in rules:
+    for _, asking, asked in rules:
         if has_all(known, asking) and not has_all(known, asked):
             return asking
     return []

@@ -6,7 +6,7 @@ from shiftfolds.bests import (
 )
 from shiftfolds.errors import InvalidPrices
 from shiftfolds.forms import is_tuple_of
-from shiftfolds.groupings import check_grouping, deed_done, deeds_let, is_count_tuple, is_deed, stretch_kinds
+from shiftfolds.groupings import check_grouping, deed_done, deeds_let, is_count_tuple, is_one_deed, stretch_kinds
 from shiftfolds.rights import check_base
 from shiftfolds.stretches import built, check_fold, folds_of, halves, stretches_of, values_up
 
@@ -160,7 +160,7 @@ def unlike_shift(base, row, grouping, prices):
                 if changes_cost(stretches, cost, deed):
                     picked = splits_down(stretches, top, key)
                     picked[key], picked[left] = split, inner
-                    return (grouping_with(stretches, top, picked), deed)
+                    return (grouping_by_splits(stretches, top, picked), deed)
     return None
 
 
@@ -171,7 +171,7 @@ def changes_cost(stretches, cost, deed):
     return stretches.is_let(first, second, third, end) and ahead != cost(second, third, end) + cost(first, second, end)
 
 
-def grouping_with(stretches, top, picked):
+def grouping_by_splits(stretches, top, picked):
     """A grouping of a class in which some classes that stand in it have the splits that a dictionary tells."""
     return built(stretches, top, lambda key: picked[key] if key in picked else stretches.splits(key)[0])
 
@@ -197,10 +197,10 @@ def is_unlike_shift(base, row, grouping, prices, value):
     stretches = stretches_of(base, row)
     if not isinstance(value, tuple) or len(value) != 2:
         return False
-    if not is_of_class(stretches, stretches.whole(grouping), value[0]) or not is_deed(value[1]):
+    if not is_of_class(stretches, stretches.whole(grouping), value[0]):
         return False
     kinds_of = stretch_kinds(base.typed().kinds().table(), row)
-    if value[1] not in deeds_let(kinds_of, base.triples(), value[0]):
+    if not is_one_deed(deeds_let(kinds_of, base.triples(), value[0]), value[1]):
         return False
     rule = sums_rule(price_cost(base, row, prices))
     return grouping_value(value[0], rule) != grouping_value(deed_done(value[0], value[1]), rule)

@@ -111,10 +111,8 @@ def parting_third(rows, held, usual, first, second):
     row, between, made = rows[first], rows[second], rows[rows[first][second]]
     most, others = usual[second]
     made_most, made_others = usual[rows[first][second]]
-    thirds = held
     # large operations make one value with nearly all others: if both bracketings do, the few others are left to ask
-    if len(others) + len(made_others) < len(held) and row[most] == made_most:
-        thirds = others + made_others
+    thirds = others + made_others if row[most] == made_most else held
     for third in thirds:
         if made[third] != row[between[third]]:
             return third
@@ -184,12 +182,9 @@ def missing_triple(kinds, triples, word):
 def is_missing(kinds, triples, word, value):
     """Whether any object is a tuple that missing_triple may return."""
     check_lot(kinds, triples, word)
-    names = kinds.names()
     if not isinstance(value, tuple) or len(value) != 2:
         return False
-    if not is_tuple_of(value[0], 4, names) or not is_tuple_of(value[1], 3, names):
-        return False
-    for four, asking, asked in rules_to(kinds.table(), names, word):
+    for four, asking, asked in rules_to(kinds.table(), kinds.names(), word):
         if four == value[0]:
             return has_all(triples, asking) and value[1] in asked and value[1] not in triples
     return False

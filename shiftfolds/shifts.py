@@ -3,8 +3,8 @@
 from shiftfolds.errors import InvalidCount, InvalidDeed
 from shiftfolds.forms import is_count_from
 from shiftfolds.groupings import (
-    check_grouping, check_row, deed_done, deed_turned, deeds_let, is_chain_of, is_deed, is_grouping_of, is_row_of,
-    stretch_kinds,
+    check_grouping, check_row, deed_done, deed_turned, deeds_let, is_chain_of, is_grouping_of, is_one_deed,
+    is_row_of, stretch_kinds,
 )
 from shiftfolds.lots import greatest_below, least_above, rules_to
 from shiftfolds.rights import check_lot, check_triples, right_triples
@@ -52,8 +52,7 @@ def let_deeds(kinds, triples, row, grouping):
 
 def done(kinds, triples, row, grouping, deed):
     """The grouping behind a deed that fits and is let."""
-    deeds = let_deeds(kinds, triples, row, grouping)
-    if not is_deed(deed) or deed not in deeds:
+    if not is_one_deed(let_deeds(kinds, triples, row, grouping), deed):
         raise InvalidDeed(deed)
     return deed_done(grouping, deed)
 

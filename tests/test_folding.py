@@ -187,11 +187,12 @@ class MarkTest(unittest.TestCase):
     def test_any_object(self):
         right = ([], [], 0, ("a", "n"))
         self.assertIs(is_mark(signs(), SIGN_TRIPLES, "n", "p", right), True)
+        self.assertIs(is_mark(signs(), SIGN_TRIPLES, "n", "p", ([], [], 2, ("n", "a"))), True)
         for wrong in strange_objects() + [
             list(right), right[:3], right + (0,), ((), [], 0, ("a", "n")), ([], (), 0, ("a", "n")), ([], [], 0, ["a", "n"]),
             ([], [], False, ("a", "n")), ([], [], "0", ("a", "n")), ([], [], 3, ("a", "n")), ([], [], -1, ("a", "n")),
             ([], [], -3, ("a", "n")), ([], [], 0, ("a",)), ([], [], 0, ("a", "n", "n")), ([], [], 0, ("a", "x")),
-            (["x"], [], 0, ("a", "n")), ([], ["x"], 0, ("a", "n")), ([["n"]], [], 0, ("a", "n")), ([], [1], 0, ("a", "n")),
+            ([], [], 3, ("n", "a")), ([], [], 9, ("n", "a")), (["x"], [], 0, ("a", "n")), ([], ["x"], 0, ("a", "n")), ([["n"]], [], 0, ("a", "n")), ([], [1], 0, ("a", "n")),
             ("", [], 0, ("a", "n")), ([], [], None, ("a", "n")), ([], [], 0, None), (None, None, 0, ("a", "n")),
         ]:
             self.assertIs(is_mark(signs(), SIGN_TRIPLES, "n", "p", wrong), False)

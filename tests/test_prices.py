@@ -230,6 +230,8 @@ class ClassTest(unittest.TestCase):
 def bent_bounds(right):
     """Objects near bounds: a class more or less, another form of a key, a number of another form."""
     found = [None, list(right.items()), list(right), {**right, (0, 1, ()): 0}, {**right, "x": 0}, {**right, (0, 9, ((0, 9),)): 0}]
+    # a class of another one of four things, and one of a stretch that is no block there
+    found += [{**right, (0, 4, ((0, 4), (1, 4), (2, 4))): 0}, {**right, (1, 4, ((1, 4), (2, 4))): 0}]
     for at, key in enumerate(right):
         rest = {other: right[other] for other in right if other != key}
         found.append(rest)

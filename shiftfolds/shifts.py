@@ -6,7 +6,7 @@ from shiftfolds.groupings import (
     check_grouping, check_row, deed_done, deed_turned, deeds_let, is_chain_of, is_grouping_of, is_one_deed,
     is_row_of, stretch_kinds,
 )
-from shiftfolds.lots import greatest_below, least_above, rules_to
+from shiftfolds.lots import first_missing, greatest_below, least_above, rules_to
 from shiftfolds.rights import check_lot, check_triples, right_triples
 from shiftfolds.stretches import Stretches, check_fold, stretches_of
 from shiftfolds.typings import check_kinds
@@ -124,6 +124,10 @@ def side(typed, row, one, other):
     check_grouping(len(row), other)
     table = kinds.table()
     rules = {word: rules_to(table, kinds.names(), word) for word in ("right", "left")}
+    for word in rules:
+        # all of them settled to one word tell both: the hull is they alone, and greatest lots need not be looked for
+        if first_missing(rules[word], triples) is None:
+            return "joined" if are_alike(Stretches(table, triples, word, row), one, other) else "apart"
     # hulls first: what one of them parts no settled right triples join, and there may be many lots of these
     for word in rules:
         if not are_alike(Stretches(table, least_above(rules[word], triples), word, row), one, other):

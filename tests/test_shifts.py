@@ -5,11 +5,12 @@ from itertools import combinations, product
 from random import Random
 
 from shiftfolds.errors import InvalidCount, InvalidDeed, InvalidGrouping, InvalidRow, InvalidWord
+from shiftfolds.operations import Operation
 from shiftfolds.rights import Base, is_settled, kinds_base, right_triples
 from shiftfolds.shifts import (
     chain_between, done, hull, is_chain, is_grouping, is_row, joined, let_deeds, plain, side,
 )
-from shiftfolds.typings import Kinds, kinds_typing
+from shiftfolds.typings import Kinds, Typing, kinds_typing
 
 from tests.folds import (
     SIGN_TRIPLES, all_triples, bent_groupings, class_by_deeds, classes_by_deeds, closed, deeds, done_by, folds,
@@ -304,6 +305,35 @@ class SideTest(unittest.TestCase):
     def test_all_right_triples_settled(self):
         typed = kinds_typing(signs())
         self.assertEqual(side(typed, ["p", "n"] * 6, plain(12), [(at, 12) for at in range(11)]), "joined")
+
+    def test_more_than_ten_settled_to_one_word_alone(self):
+        words = []
+        for typed in one_word_typings():
+            kinds, right = typed.kinds(), right_triples(typed)
+            settled = [word for word in ("right", "left") if not missing_triples(kinds, right, word)]
+            self.assertEqual([len(settled), len(right) > 10], [1, True])
+            words += settled
+            for row in some_rows(kinds, 4, 2, len(right))[2:] + [kinds.names()[:3]]:
+                classes = classes_by_deeds(kinds, right, row)
+                for one, other in product(groupings(len(row)), repeat=2):
+                    wanted = "joined" if any(one in found and other in found for found in classes) else "apart"
+                    self.assertEqual(side(typed, row, list(one), list(other)), wanted)
+        self.assertEqual([words.count("right") > 2, words.count("left") > 2], [True, True])
+
+
+def one_word_typings():
+    """Typings of more than ten right triples that are settled to one of the two words alone."""
+    turned, found = {"p": "q", "q": "p"}, []
+    for takes_first in (True, False):
+        for names in ("abcd", "bcd", "dcb", "adbc"):
+            letters = dict(zip(names, ["s", "t", "u", "v"]))
+            holding = {name: [letters[name]] for name in names[:-1]}
+            holding[names[-1]] = ["p", "q"]
+            kinds = Kinds({(x, y): x if takes_first else y for x in names for y in names})
+            made = {(x, y): x if takes_first else y for x in "pqstuv" for y in "pqstuv"}
+            operation = Operation({pair: turned.get(value, value) for pair, value in made.items()})
+            found.append(Typing(operation, kinds, {name: holding[name] for name in sorted(names)}))
+    return found
 
 
 def settled_lots(kinds, right, word):

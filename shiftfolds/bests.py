@@ -6,7 +6,7 @@ values of both parts, 0 for a thing. It never falls if one of these grows: so le
 
 from shiftfolds.forms import is_count
 from shiftfolds.groupings import inner_first, is_grouping_of, mids_of
-from shiftfolds.stretches import built, halves, is_class, values_up
+from shiftfolds.stretches import built, halves, is_keyed_by, values_up
 
 
 def sums_rule(cost):
@@ -63,12 +63,7 @@ def greatest_bounds(stretches, top, rule):
 def are_bounds_by(stretches, top, rule, value):
     """Whether any object is a dictionary from the classes that come in one to bounds by a rule."""
     keys = stretches.coming(top)
-    if not isinstance(value, dict) or len(value) != len(keys):
-        return False
-    # the form of the keys comes first: True and False would be found for 1 and 0
-    if not all([is_class(stretches.size(), key) for key in value]) or not all([key in value for key in keys]):
-        return False
-    if not all([is_count(number) for number in value.values()]):
+    if not is_keyed_by(stretches.size(), keys, value) or not all([is_count(number) for number in value.values()]):
         return False
     for key in keys:
         for split in stretches.splits(key):

@@ -3,7 +3,7 @@
 from shiftfolds.bests import (
     are_bounds_by, best_grouping, fronts_up, greatest_bounds, grouping_value, is_best, least_value, sums_rule,
 )
-from shiftfolds.equals import is_inputs_of, steps_of_grouping, values_by
+from shiftfolds.equals import block_values, is_inputs_of, steps_of_grouping
 from shiftfolds.errors import InvalidCount, InvalidInputs, InvalidValue, InvalidWeights
 from shiftfolds.forms import is_count, is_count_list, is_one_of
 from shiftfolds.groupings import check_any_grouping
@@ -54,8 +54,8 @@ def edit(base, row, grouping, inputs, place, value):
     if not is_one_of(value, typed.holding()[row[place]]):
         raise InvalidValue(value)
     table, steps = typed.operation().table(), steps_of_grouping(grouping)
-    before = values_by(table, steps, inputs)
-    behind = values_by(table, steps, inputs[:place] + [value] + inputs[place + 1:])
+    before = block_values(table, steps, inputs)
+    behind = block_values(table, steps, inputs[:place] + [value] + inputs[place + 1:])
     return changed_blocks(steps, before, behind, place, inputs[place] != value)
 
 

@@ -55,7 +55,7 @@ def steps_of_grouping(grouping):
     return [(first, mids[(first, end)], end) for first, end in inner_first(grouping)]
 
 
-def values_by(table, steps, inputs):
+def block_values(table, steps, inputs):
     """The dictionary from the things and the blocks of a grouping, parts first, to their values for inputs."""
     values = {(at, at + 1): word for at, word in enumerate(inputs)}
     for first, mid, end in steps:
@@ -65,7 +65,7 @@ def values_by(table, steps, inputs):
 
 def value_by(table, steps, inputs):
     """The value of a grouping, told by its steps, for inputs."""
-    return values_by(table, steps, inputs)[(0, len(inputs))]
+    return block_values(table, steps, inputs)[(0, len(inputs))]
 
 
 def inputs_number(holding, row):

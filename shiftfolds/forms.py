@@ -3,6 +3,7 @@
 from itertools import product
 
 LETTERS = "abcdefghijklmnopqrstuvwxyz"
+FIGURES = "0123456789"
 
 
 def is_word(value):
@@ -171,3 +172,8 @@ def joined_lists(heads):
         lists.setdefault(head_of(heads, name), []).append(name)
     # each list was begun with its least word: so they came in their order
     return [lists[head] for head in lists]
+
+
+def is_figures(text):
+    """Whether a text is one figure or more."""
+    return len(text) > 0 and all([sign in FIGURES for sign in text])

@@ -30,16 +30,19 @@ def is_block_list(size, value):
     return isinstance(value, list) and all([is_block(size, block) for block in value]) and is_ascending(value)
 
 
-def is_grouping_of(size, value):
-    """Whether any object is a grouping of so many things."""
-    if not is_block_list(size, value) or len(value) != size - 1:
-        return False
-    for at, (first, end) in enumerate(value):
-        for second, other in value[at + 1:]:
+def are_apart(blocks):
+    """Whether of ascending blocks no two overlap."""
+    for at, (first, end) in enumerate(blocks):
+        for second, other in blocks[at + 1:]:
             # an elder block begins no later: both overlap if it ends within the later one
             if first < second < end < other:
                 return False
     return True
+
+
+def is_grouping_of(size, value):
+    """Whether any object is a grouping of so many things."""
+    return is_block_list(size, value) and len(value) == size - 1 and are_apart(value)
 
 
 def check_grouping(size, grouping):
@@ -52,6 +55,11 @@ def check_any_grouping(grouping):
     """Raises InvalidGrouping unless an object is a grouping of one thing more than it has blocks."""
     if not isinstance(grouping, list) or not is_grouping_of(len(grouping) + 1, grouping):
         raise InvalidGrouping(grouping)
+
+
+def plain_blocks(size):
+    """The plain grouping of so many things."""
+    return [(0, end) for end in range(2, size + 1)]
 
 
 def mids_of(grouping):

@@ -5,11 +5,16 @@ from shiftfolds.forms import is_count, is_count_from
 from shiftfolds.groupings import check_any_grouping, is_block_list, mids_of
 
 
+def check_hands(hands):
+    """Raises InvalidHands unless an object is a count from 1 on."""
+    if not is_count_from(hands, 1):
+        raise InvalidHands(hands)
+
+
 def check_run(grouping, hands):
     """Raises the error of the first of the two that is none."""
     check_any_grouping(grouping)
-    if not is_count_from(hands, 1):
-        raise InvalidHands(hands)
+    check_hands(hands)
 
 
 def block_parts(grouping):
@@ -81,13 +86,19 @@ def is_least_schedule(grouping, hands, value):
     return is_schedule(grouping, hands, value) and len(value) == len(steps_run(grouping, hands, []))
 
 
+def depth_numbers(deep):
+    """The list of how many of some depths are 0, 1, .. or more, as long as there are such ones."""
+    return [len([depth for depth in deep if depth >= least]) for least in range(max(deep, default=-1) + 1)]
+
+
+def steps_by_numbers(numbers, hands):
+    """The list of the numbers of steps that bars tell, of so many blocks at each one or deeper."""
+    return [bar + (many + hands - 1) // hands for bar, many in enumerate(numbers)]
+
+
 def bar_numbers(deep, hands):
     """The list of the numbers of the bars 0, 1, .. of blocks of some depths, as long as there are such blocks."""
-    numbers = []
-    for bar in range(max(deep, default=-1) + 1):
-        many = len([depth for depth in deep if depth >= bar])
-        numbers.append(bar + (many + hands - 1) // hands)
-    return numbers
+    return steps_by_numbers(depth_numbers(deep), hands)
 
 
 def numbers_of(grouping, hands):

@@ -4,7 +4,7 @@ from shiftfolds.errors import InvalidCount, InvalidDeed
 from shiftfolds.forms import is_count_from
 from shiftfolds.groupings import (
     check_grouping, check_row, deed_done, deed_turned, deeds_let, is_chain_of, is_grouping_of, is_one_deed,
-    is_row_of, stretch_kinds,
+    is_row_of, plain_blocks, stretch_kinds,
 )
 from shiftfolds.lots import first_missing, greatest_below, least_above, rules_to
 from shiftfolds.rights import check_lot, check_triples, right_triples
@@ -33,7 +33,7 @@ def is_grouping(size, value):
 def plain(size):
     """The plain grouping of so many things."""
     check_size(size)
-    return [(0, end) for end in range(2, size + 1)]
+    return plain_blocks(size)
 
 
 def check_shifted(kinds, triples, row, grouping):

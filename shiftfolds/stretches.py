@@ -139,6 +139,14 @@ def is_class(size, value):
     return isinstance(value[2], tuple) and all([is_count_tuple(block, 2) for block in value[2]])
 
 
+def is_keyed_by(size, keys, value):
+    """Whether any object is a dictionary from just some classes of a row of so many things."""
+    if not isinstance(value, dict) or len(value) != len(keys):
+        return False
+    # the form of the keys comes first: True and False would be found for 1 and 0
+    return all([is_class(size, key) for key in value]) and all([key in value for key in keys])
+
+
 def stretches_of(base, row):
     """The classes of the stretches of a row under a base."""
     return Stretches(base.typed().kinds().table(), base.triples(), base.word(), row)

@@ -4,6 +4,7 @@ from itertools import product
 
 LETTERS = "abcdefghijklmnopqrstuvwxyz"
 FIGURES = "0123456789"
+MOST_FIGURES = 900
 
 
 def is_word(value):
@@ -175,5 +176,6 @@ def joined_lists(heads):
 
 
 def is_figures(text):
-    """Whether a text is one figure or more."""
-    return len(text) > 0 and all([sign in FIGURES for sign in text])
+    """Whether a text is one figure or more, but not so many that no number is made of them."""
+    # Python itself refuses to read some thousands of figures
+    return 0 < len(text) <= MOST_FIGURES and all([sign in FIGURES for sign in text])

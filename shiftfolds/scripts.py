@@ -24,11 +24,18 @@ LONG = ("put", "replan", "cheapen", "try")
 
 def is_script(value):
     """Whether any object is a script."""
-    return isinstance(value, list) and all([is_command(command) for command in value])
+    # scripts within are put off: calls within calls would be too deep for texts of many tries
+    waiting = [value]
+    while waiting:
+        script = waiting.pop()
+        if not isinstance(script, list) or not all([is_command(command) for command in script]):
+            return False
+        waiting.extend([command[1] for command in script if command[0] == "try"])
+    return True
 
 
 def is_command(value):
-    """Whether any object is a command of a script."""
+    """Whether any object is a command of a script, whatever stands behind the word of a try."""
     if not isinstance(value, tuple) or not value or not is_one_of(value[0], list(SHAPES)):
         return False
     shapes = SHAPES[value[0]]
@@ -36,7 +43,7 @@ def is_command(value):
 
 
 def is_thing(shape, value):
-    """Whether any object is what a word tells."""
+    """Whether any object is what a word tells, any one for a script."""
     if shape == "program":
         return isinstance(value, Program)
     if shape == "count":
@@ -45,9 +52,7 @@ def is_thing(shape, value):
         return is_word(value)
     if shape == "plan":
         return is_any_plan(value)
-    if shape == "prices":
-        return are_any_prices(value)
-    return is_script(value)
+    return shape == "script" or are_any_prices(value)
 
 
 def is_any_plan(value):

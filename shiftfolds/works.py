@@ -262,8 +262,10 @@ def short_first(blocks):
 
 def all_told(program, plan, given):
     """The dictionary from known names, and from the works of known folds, to their values."""
-    values, made = told_by(program, plan, given)
-    return {**values, **made}
+    told, made = told_by(program, plan, given)
+    for work in made:
+        told[work] = made[work]
+    return told
 
 
 def blocks_given(program, plan, ahead, behind):

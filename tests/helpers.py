@@ -5,8 +5,10 @@ from random import Random
 
 from shiftfolds.errors import FoldError, InvalidValue
 from shiftfolds.operations import Operation
+from shiftfolds.programs import Program
 from shiftfolds.rights import Base
 from shiftfolds.typings import Kinds, Typing
+from shiftfolds.works import Works
 
 STOP_NAMES = ["mm", "m", "o", "q", "qq"]
 
@@ -171,6 +173,24 @@ def strange_folds():
     ]
 
 
+def strange_programs():
+    """More objects, among them what is asked somewhere of programs, works and texts, and what is near it."""
+    base = Base(stop_typing(), [], "left")
+    program = Program(base, [("input", "x", "p")])
+    works = Works(base)
+    works.put(program)
+    return [
+        program, [program], {"x": program}, works, (works,), {works: program}, {"t": [(0, 2)]}, {"t": [(0, 2)], "r": [(0, 2)]}, {"x": "q"},
+        {"x": "qq", "y": "q", "z": "mm"}, {"r": [(0, 2)], "t": [(False, 2), (0, 3)]}, {"r": [(0, 2)], "t": [(0, 3), (1, 3)]}, ("t", 0, 2),
+        ("t", False, 2), [("t", 0, 2)], [[("t", 0, 2)]], [[("t", 0, 2)], [("t", 0, 2), ("t", 0, 2)]], [[("t", False, 2)]], [{("t", 0, 2): "q"}],
+        {("t", 0, 2): "q"}, [1], [1, 2, 4], [2, 1], [0], ("input", "x", "p"), [("input", "x", "p"), ("fold", "t", ("x",))],
+        [("input", "x", "p"), ("fold", "t", ["y"])], [("input", "x", "p", "p")], ("do", "q", "q", "o"), [("do", "q", "q", "o")],
+        [("do", "q", "q", "Q")], [("do", "q", "q")], [["drop", "p", "o"]], ("drop", "p", "o"), [("drop", "p", True)], ("stands", []), ("equal",),
+        [("undo",)], [("take", 0)], [("take", False)], [("take", 0, 0)], [["take", 0]], [("try", [["undo"]])], [("put", None, None)],
+        "z z = z", "input x p", "take 0", "undo", "do q q o", "z z = z\n", "input x p\n", " take 0", {"x": ["q"], "y": [("t", 0)]}, [{}], [[], {}],
+    ]
+
+
 def snapshot(value):
     """A picture of an object, by which a change deep within it, of a kind or of an order, is seen."""
     if isinstance(value, (list, tuple)):
@@ -184,6 +204,11 @@ def snapshot(value):
         return ["Typing"] + [snapshot(part) for part in parts]
     if isinstance(value, Base):
         return ["Base"] + [snapshot(part) for part in [value.typed(), value.triples(), value.word()]]
+    if isinstance(value, Program):
+        return ["Program", snapshot(value.base()), snapshot(value.lines())]
+    if isinstance(value, Works):
+        there = [[spot, value.program_there(spot), value.plan_there(spot), value.given_there(spot)] for spot in value.spots()]
+        return ["Works", snapshot(there), snapshot(value.log())]
     if isinstance(value, FoldError):
         return [value.__class__.__name__, snapshot(getattr(value, "value", None))]
     return [value.__class__.__name__, repr(value)]

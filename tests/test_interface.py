@@ -68,6 +68,47 @@ FUNCTIONS = {
         run(grouping,hands,losses) bars_left(grouping,hands,losses) costly_steps(grouping,hands,losses)
         worst_steps(grouping,hands,lost) worst_losses(grouping,hands,lost) are_worst_losses(grouping,hands,lost,value)
     """,
+    "frontiers": """
+        profile(grouping) steps_of(grouping,hands) frontier(base,row,grouping) frontier_groupings(base,row,grouping)
+        are_frontier_groupings(base,row,grouping,value) fronts_of(base,row,grouping)
+        are_fronts(base,row,grouping,value) class_steps(base,row,grouping,hands) fastest(base,row,grouping,hands)
+        is_fastest(base,row,grouping,hands,value) best_for_all(base,row,grouping)
+        is_best_for_all(base,row,grouping,value)
+    """,
+    "cuts": """
+        block_numbers(base,row,grouping) sure_blocks(base,row,grouping) grouping_with(base,row,grouping,blocks)
+        is_grouping_with(base,row,grouping,blocks,value) many_with(base,row,grouping,blocks)
+        goes(base,row,grouping,cut) grouping_by(base,row,grouping,cut) is_grouping_by(base,row,grouping,cut,value)
+        cuts_into(base,row,grouping,pieces) fewest_pieces(base,row,grouping,most)
+        evenest_cut(base,row,grouping,pieces) is_evenest_cut(base,row,grouping,pieces,value)
+    """,
+    "programs": """
+        kind_made(program,name) trimmed(program) expanded(program) surely_alike(one,other) inlined(program,name)
+        flattened(program) taken_out(program,name,first,end,newer) merged(program) plain_plan(program)
+        is_plan(program,value) plan_price(program,plan,prices) cheapest_plan(program,prices)
+        is_cheapest_plan(program,prices,value) levels(program,plan) soonest_plan(program)
+        is_soonest_plan(program,value) program_text(program) read_program(base,text)
+    """,
+    "machines": """
+        is_feed(program,value) values_by(program,plan,feed) result_of(program,feed) works(program,plan)
+        needs(program,plan,work) distances(program,plan) is_run(program,plan,hands,value)
+        run_by(program,plan,hands,losses) trace(program,plan,feed,hands) is_trace(program,plan,feed,hands,value)
+        steps_at_least(program,plan,hands) steps_at_most(program,plan,hands) edited(program,plan,feed,name,value)
+        parting_feed(one,other) is_parting_feed(one,other,value)
+    """,
+    "changes": """
+        changed_by(typed,changes) broken_by(typed,changes) typing_behind(typed,changes) rights_changed(typed,changes)
+        fate(typed,changes,row,one,other) is_fate(typed,changes,row,one,other,value)
+        breaking_lots(typed,changes,row,one,other) lost_of(base,changes)
+    """,
+    "works": "replayed(works,log)",
+    "scripts": """
+        play(works,script) script_text(script) read_script(base,text) end_of(base,script) shortened(base,script)
+    """,
+    "papers": """
+        operation_text(operation) read_operation(text) typing_text(typed) read_typing(text) base_text(base)
+        read_base(text) change_text(change) read_change(text)
+    """,
 }
 CLASSES = {
     ("operations", "Operation"): "__init__(self,table) table(self) names(self) do(self,first,second) __eq__(self,other)",
@@ -77,6 +118,13 @@ CLASSES = {
     """,
     ("rights", "Base"): """
         __init__(self,typed,triples,word) typed(self) triples(self) word(self) __eq__(self,other)
+    """,
+    ("programs", "Program"): "__init__(self,base,lines) base(self) lines(self) __eq__(self,other)",
+    ("works", "Works"): """
+        __init__(self,base) put(self,program) take(self,spot) spots(self) program_there(self,spot)
+        plan_there(self,spot) given_there(self,spot) give(self,spot,name,value) drop(self,spot,name) known(self,spot)
+        value_there(self,spot,name) replan(self,spot,plan) cheapen(self,spot,prices) hasten(self,spot) trim(self,spot)
+        merge(self,spot) flatten(self,spot) trial(self) attempt(self,action) copy(self) undo(self) redo(self) log(self)
     """,
 }
 

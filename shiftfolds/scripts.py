@@ -9,7 +9,7 @@ from shiftfolds.groupings import is_count_tuple, is_grouping_of
 from shiftfolds.lines import read_lines
 from shiftfolds.programs import Program, program_text
 from shiftfolds.rights import check_base
-from shiftfolds.works import Works, carry_out, check_works, copied_plan
+from shiftfolds.works import Works, carry_out, check_works, copied_command
 
 # The words of the commands, with what stands behind each one.
 SHAPES = {
@@ -262,20 +262,5 @@ def shortened(base, script):
         shorter = left[:at] + left[at + 1:]
         if end_of(base, shorter) == whole:
             left = shorter
-    return copied_script(left)
-
-
-def copied_script(script):
-    """The same script, its lists and dictionaries new ones."""
-    return [copied_told(command) for command in script]
-
-
-def copied_told(command):
-    """The same command of a script, its list or dictionary a new one."""
-    if command[0] == "try":
-        return ("try", copied_script(command[1]))
-    if command[0] == "replan":
-        return ("replan", command[1], copied_plan(command[2]))
-    if command[0] == "cheapen":
-        return ("cheapen", command[1], {pair: command[2][pair] for pair in command[2]})
-    return command
+    # a try never changes the end: so none is left
+    return [copied_command(command) for command in left]

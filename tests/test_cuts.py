@@ -4,7 +4,7 @@ import unittest
 from itertools import combinations
 from random import Random
 
-from shiftfolds.classes import class_size
+from shiftfolds.classes import class_size, splits_of
 from shiftfolds.cuts import (
     block_numbers, cuts_into, evenest_cut, fewest_pieces, goes, grouping_by, grouping_with, is_evenest_cut,
     is_grouping_by, is_grouping_with, many_with, sure_blocks,
@@ -14,7 +14,7 @@ from shiftfolds.rights import kinds_base
 from shiftfolds.shifts import plain
 from shiftfolds.typings import Kinds
 
-from tests.folds import SIGN_TRIPLES, all_triples, bent_groupings, folds, groupings, overlap
+from tests.folds import SIGN_TRIPLES, all_triples, bent_groupings, classes_by_deeds, folds, groupings, overlap
 from tests.helpers import signs, strange_folds, strange_objects
 
 ROW, HALVES, OTHER = ["p", "p", "n", "p"], [(0, 2), (0, 4), (2, 4)], [(0, 4), (1, 4), (2, 4)]
@@ -104,6 +104,21 @@ class BlocksTest(unittest.TestCase):
             self.assertIn(tuple(told), wanted)
         for each in wanted[:4] + groupings(len(row))[::5]:
             self.assertIs(is_grouping_with(base, row, one, some, list(each)), each in wanted)
+
+    def test_splits_of_one_place_of_which_some_have_the_blocks(self):
+        kinds, many = Kinds({(x, y): "a" for x in "ab" for y in "ab"}), 0
+        for base in [
+            kinds_base(kinds, [("a", "b", "a"), ("b", "a", "a")], "right"), kinds_base(kinds, [("a", "a", "b"), ("a", "b", "a")], "left"),
+        ]:
+            for row in [list("baba"), list("babaa"), list("abab"), list("aabab"), list("babab")]:
+                for found in classes_by_deeds(kinds, base.triples(), row):
+                    places = [split[0] for split in splits_of(base, row, list(found[0]))]
+                    many += len(set(places)) < len(places)
+                    lists = {some for each in found for many_blocks in (1, 2, 3) for some in combinations(each, many_blocks)}
+                    for some in sorted(lists):
+                        wanted = [each for each in found if set(some) <= set(each)]
+                        self.check(base, row, list(found[0]), list(some), wanted)
+        self.assertTrue(many > 2)
 
     def test_no_blocks_and_one_thing(self):
         base = sign_base()

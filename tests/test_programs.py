@@ -11,6 +11,7 @@ from shiftfolds.programs import (
     merged, plain_plan, plan_price, program_text, read_program, soonest_plan, surely_alike, taken_out, trimmed,
 )
 from shiftfolds.rights import Base, kinds_base
+from shiftfolds.typings import Kinds
 
 from tests.folds import all_triples, class_by_deeds, groupings
 from tests.helpers import signs, stop_typing, strange_folds, strange_objects
@@ -272,6 +273,25 @@ class PutInTest(unittest.TestCase):
         self.assertTrue(flattened(stays) == stays)
         none = of_lines([("fold", "r", ["x", "y"]), ("fold", "t", ["z", "w"])])
         self.assertRaises(Refused, inlined, none, "r")
+
+    def test_what_stands_behind_may_join_what_is_apart_alone(self):
+        kinds = Kinds({(x, y): "a" for x in "ab" for y in "ab"})
+        base = kinds_base(kinds, [("a", "b", "a"), ("b", "a", "a")], "right")
+        inputs = [("input", "x", "b"), ("input", "y", "a"), ("input", "z", "b"), ("input", "w", "a"), ("fold", "r", ["y", "z"])]
+        told = []
+        for behind in [["w"], [], ["x"], ["w", "w"], ["w", "x"], ["x", "w"]]:
+            program = Program(base, inputs + [("fold", "t", ["x", "r"] + behind)])
+            can_be = can_be_put_in(program, "r")
+            told.append(can_be)
+            whole = Program(base, inputs[:4] + [("fold", "t", ["x", "y", "z"] + behind)])
+            if can_be:
+                self.assertTrue(inlined(program, "r") == whole and flattened(program) == whole)
+                self.assertTrue(taken_out(whole, "t", 1, 3, "r") == program)
+                continue
+            self.assertRaises(Refused, inlined, program, "r")
+            self.assertTrue(flattened(program) == program)
+            self.assertRaises(Refused, taken_out, whole, "t", 1, 3, "r")
+        self.assertEqual(told[:3], [True, False, False])
 
     def test_names_that_are_none(self):
         program = two_program()
